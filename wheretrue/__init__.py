@@ -1,0 +1,1 @@
+"""Wheretrue: for which values of a parameter t a condition on it is true."""
