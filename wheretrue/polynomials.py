@@ -7,6 +7,7 @@ from itertools import zip_longest
 from math import gcd
 
 from wheretrue.errors import BadNumber, BadSize
+from wheretrue.modular import PRIMES, divisor_modulo, joined, nearest, prime_below
 from wheretrue.numbers import is_whole, number
 
 
@@ -62,14 +63,25 @@ def derivative(a):
 
 def value_at(a, x):
     """The value of the polynomial at the number x."""
+    power = 1
+    for _ in a:
+        power = power * x[1]
+    # One division at the end is cheaper than lowest terms at each step.
+    return number(scaled_value(a, x) * x[1], power)
+
+
+def scaled_value(a, x):
+    """The value at x, times the denominator of x to the power of the degree: a whole number with the sign of the value.
+
+    x is a tuple (n, d) with d greater than 0, not always in lowest terms.
+    """
     n, d = x
     top = 0
     power = 1
-    # One division at the end is cheaper than lowest terms at each step.
     for coefficient in reversed(a):
         top = top * n + coefficient * power
         power = power * d
-    return number(top * d, power)
+    return top
 
 
 def content(a):
@@ -112,27 +124,60 @@ def divides(a, b):
 
 def quotient(a, b):
     """The plain form of a divided by b, which divides it; neither is 0."""
-    rest = plain(a)
-    divisor = plain(b)
-    degree = len(divisor) - 1
-    steps = len(rest) - degree
-    coefficients = [0] * steps
-    # A plain polynomial that is divided by a plain one has whole coefficients, so no step leaves a rest.
-    for shift in reversed(range(steps)):
-        factor = rest[shift + degree] // divisor[degree]
-        coefficients[shift] = factor
-        for k in range(degree + 1):
-            rest[shift + k] -= factor * divisor[k]
-    return coefficients
+    return _plain_quotient(plain(a), plain(b))
+
+
+def _plain_quotient(a, b):
+    """The quotient of two plain polynomials, or None if b does not divide a."""
+    lead = b[-1]
+    degree = len(b) - 1
+    rest = list(a)
+    coefficients = []
+    # The quotient of plain polynomials has whole coefficients, so each step is a division of whole numbers.
+    while len(rest) > degree:
+        factor, left = divmod(rest.pop(), lead)
+        if left != 0:
+            return None
+        coefficients.append(factor)
+        if factor != 0:
+            shift = len(rest) - degree
+            rest[shift:] = [c - factor * e for c, e in zip(rest[shift:], b)]
+    return None if any(rest) else coefficients[::-1]
 
 
 def common_divisor(a, b):
     """The greatest common divisor, a plain polynomial; 0 if both are 0."""
     first = plain(a)
     second = plain(b)
-    while second != []:
-        first, second = second, plain(false_rest(first, second))
-    return first
+    if first == [] or second == []:
+        return first + second
+    prime = PRIMES[0]
+    found = []
+    modulus = 1
+    while True:
+        if first[-1] % prime != 0 and second[-1] % prime != 0:
+            rests = _scaled_divisor(first, second, prime)
+            if found == [] or len(rests) < len(found):
+                # A divisor of a greater degree is one modulo the earlier primes alone.
+                found = rests
+                modulus = prime
+            elif len(rests) == len(found):
+                found = joined(found, modulus, rests, prime)
+                modulus = modulus * prime
+            candidate = plain(nearest(found, modulus))
+            if _divides_both(candidate, first, second):
+                return candidate
+        prime = prime_below(prime)
+
+
+def _scaled_divisor(a, b, prime):
+    """The greatest common divisor modulo the prime, with a leading coefficient that does for whole numbers, too."""
+    lead = gcd(a[-1], b[-1])
+    return [c * lead % prime for c in divisor_modulo(a, b, prime)]
+
+
+def _divides_both(candidate, a, b):
+    return _plain_quotient(a, candidate) is not None and _plain_quotient(b, candidate) is not None
 
 
 def square_free(a):
