@@ -86,5 +86,7 @@ SQUARE_FREE = [
     [line(k) for k in range(-6, 7)], [line(k, 6) for k in range(-5, 6)], [square(k, 1, -1) for k in (2, 3, 5, 6, 7)],
     [line(10 ** 20), line(10 ** 20 + 1), line(1, 10 ** 20)], [square(10 ** 30 + 1), line(10 ** 15), line(-10 ** 15)],
     [line(k, 8) for k in range(-4, 5)] + [square(1, 3), cube(1, 9, -5)], [square(-1), square(-2, 3), square(-7, 1, -6)],
+    [line(1, 10 ** 20), line(3, 10 ** 20), line(-7, 10 ** 20), square(2, 10 ** 40)],
+    [square(1, 3 ** 51), cube(1, 2 ** 91)],
     [line(1), line(-1, 2), square(2, 1, -12), square(-5, 7), cube(3, 2)], [line(1, 2, -2), line(1, 4), line(3, 4)],
 ]

@@ -1,3 +1,4 @@
+import itertools
 import random
 import unittest
 from fractions import Fraction
@@ -99,6 +100,15 @@ class ChainTest(unittest.TestCase):
             chain = chain_by_powers(p)
             if len(chain[-1]) == 1:
                 self.assertEqual(chain_of(p), chain, p)
+
+    def test_degrees_that_fall_by_more_than_one(self):
+        for degree in range(3, 12):
+            for power in range(1, degree):
+                for low, middle, high in itertools.product((1, -2), (3, -1), (1, -4)):
+                    p = [low] + [0] * (power - 1) + [middle] + [0] * (degree - power - 1) + [high]
+                    chain = chain_by_powers(p)
+                    if len(chain[-1]) == 1:
+                        self.assertEqual(chain_of(p), chain, p)
 
     def test_variations(self):
         chain = [[-2, 0, 1], [0, 1], [1]]

@@ -60,13 +60,12 @@ class Root:
         return (self.low, self.high, self.scale)
 
     def sharpen(self):
-        """Makes the span at most half as wide."""
-        if self.low < self.high:
-            if self._leap():
-                self.bits = 2 * self.bits
-            else:
-                self.bits = max(1, self.bits // 2)
-                self._halve()
+        """Makes the span, which is not a point yet, at most half as wide."""
+        if self._leap():
+            self.bits = 2 * self.bits
+        else:
+            self.bits = max(1, self.bits // 2)
+            self._halve()
 
     def _halve(self):
         middle = self.low + self.high

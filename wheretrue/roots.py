@@ -22,16 +22,14 @@ def chain_of(p):
 
 
 def _next_of_chain(a, b):
-    rest = false_rest(a, b)
-    if rest == []:
-        return []
-    # False rest multiplies a by a number that is less than 0 in the other case.
+    """The polynomial of the chain behind a and b, or 0 behind its last one."""
+    # Otherwise the false rest is that of a times a number less than 0.
     turned = b[-1] > 0 or (len(a) - len(b)) % 2 == 1
-    return scale(_without_content(rest), -1 if turned else 1)
+    return scale(_without_content(false_rest(a, b)), -1 if turned else 1)
 
 
 def _without_content(a):
-    """The polynomial, which is not 0, divided by its content; its signs stay."""
+    """The polynomial divided by its content, which is greater than 0 if there is a coefficient; its signs stay."""
     divisor = content(a)
     return [c // divisor for c in a]
 
@@ -118,8 +116,6 @@ def sign_at_root(p, place, a):
 def rational_roots(a):
     """The rational roots of the polynomial a, which is not 0, ascending, each once."""
     p = square_free(a)
-    if len(p) == 1:
-        return []
     # A rational root is a whole number divided by the leading coefficient.
     lead = p[-1]
     tops = [(root, root.floor(lead)) for root in real_roots(p)]
