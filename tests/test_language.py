@@ -14,7 +14,7 @@ LIBRARY = {
 }
 BUILTINS = set(
     "len range enumerate zip min max sum abs sorted reversed int str bool bytes list tuple dict set frozenset "
-    "isinstance ord repr any all divmod pow getattr hasattr setattr iter next map super "
+    "isinstance ord repr any all divmod pow getattr hasattr setattr iter next map super property "
     "Exception ValueError TypeError KeyError IndexError LookupError ZeroDivisionError ArithmeticError OverflowError "
     "RuntimeError NotImplementedError AttributeError StopIteration NotImplemented".split()
 )
@@ -36,6 +36,11 @@ def bound_names(tree):
             yield node.id
         elif isinstance(node, ast.alias):
             yield node.asname or node.name
+
+
+def imported_names(tree):
+    """All names that the file imports."""
+    return {alias.name for node in tree.body if isinstance(node, ast.ImportFrom) for alias in node.names}
 
 
 class LanguageTest(unittest.TestCase):
@@ -72,6 +77,57 @@ class LanguageTest(unittest.TestCase):
                         self.assertEqual(node.module.split(".")[0], "wheretrue", path)
                     else:
                         self.assertLessEqual({alias.name for alias in node.names}, LIBRARY[node.module], path)
+
+    def test_imports_are_used_and_not_given_another_meaning(self):
+        for path, tree in self.trees.items():
+            imported = imported_names(tree)
+            used = {node.id for node in ast.walk(tree) if isinstance(node, ast.Name) and isinstance(node.ctx, ast.Load)}
+            self.assertLessEqual(imported, used, path)
+            classes = {node.name for node in tree.body if isinstance(node, ast.ClassDef)}
+            for node in ast.walk(tree):
+                if isinstance(node, ast.arg):
+                    self.assertNotIn(node.arg, imported | classes, path)
+                elif isinstance(node, ast.Name) and not isinstance(node.ctx, ast.Load):
+                    self.assertNotIn(node.id, imported | classes, path)
+
+    def test_no_two_files_import_from_each_other(self):
+        links = {}
+        for path, tree in self.trees.items():
+            links["wheretrue." + path.stem] = [
+                node.module for node in tree.body
+                if isinstance(node, ast.ImportFrom) and node.module.startswith("wheretrue.")
+            ]
+        done = set()
+        while len(done) < len(links):
+            ready = {name for name, others in links.items() if name not in done and done.issuperset(others)}
+            self.assertTrue(ready, set(links) - done)
+            done |= ready
+
+    def test_names_come_from_the_files_that_define_them(self):
+        for path, tree in self.trees.items():
+            for node in tree.body:
+                if isinstance(node, ast.ImportFrom) and node.module.startswith("wheretrue."):
+                    other = self.trees[PACKAGE / (node.module.split(".")[1] + ".py")]
+                    names = [one.name for one in other.body if isinstance(one, (ast.FunctionDef, ast.ClassDef))]
+                    names += [target.id for one in other.body if isinstance(one, ast.Assign) for target in one.targets]
+                    for alias in node.names:
+                        self.assertIn(alias.name, names, path)
+
+    def test_decorators(self):
+        for path, tree in self.trees.items():
+            for node in ast.walk(tree):
+                for decorator in getattr(node, "decorator_list", []):
+                    self.assertEqual(ast.unparse(decorator), "property", path)
+
+    def test_no_name_is_a_method_and_an_attribute(self):
+        methods, attributes = set(), set()
+        for tree in self.trees.values():
+            for one in ast.walk(tree):
+                if isinstance(one, ast.ClassDef):
+                    methods |= {node.name for node in one.body if isinstance(node, ast.FunctionDef)}
+                elif isinstance(one, ast.Attribute) and not isinstance(one.ctx, ast.Load):
+                    attributes.add(one.attr)
+        self.assertEqual(methods & attributes, set())
 
     def test_statements_and_values(self):
         for path, tree in self.trees.items():

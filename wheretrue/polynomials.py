@@ -124,11 +124,11 @@ def divides(a, b):
 
 def quotient(a, b):
     """The plain form of a divided by b, which divides it; neither is 0."""
-    return _plain_quotient(plain(a), plain(b))
+    return exact_quotient(plain(a), plain(b))
 
 
-def _plain_quotient(a, b):
-    """The quotient of two plain polynomials, or None if b does not divide a."""
+def exact_quotient(a, b):
+    """The quotient of a by the plain polynomial b, with whole coefficients, or None if b does not divide a."""
     lead = b[-1]
     degree = len(b) - 1
     rest = list(a)
@@ -177,7 +177,7 @@ def _scaled_divisor(a, b, prime):
 
 
 def _divides_both(candidate, a, b):
-    return _plain_quotient(a, candidate) is not None and _plain_quotient(b, candidate) is not None
+    return exact_quotient(a, candidate) is not None and exact_quotient(b, candidate) is not None
 
 
 def square_free(a):

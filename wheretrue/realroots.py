@@ -1,6 +1,7 @@
 """Real roots of square-free polynomials, each one told as closely as it is needed."""
 
 from wheretrue.isolating import isolated
+from wheretrue.numbers import number
 from wheretrue.polynomials import common_divisor, derivative, scaled_value
 
 
@@ -34,6 +35,17 @@ def sign_everywhere(a, span):
     if least <= 0 <= greatest:
         return 0
     return sign_of_whole(least)
+
+
+class Point:
+    """A number t, at which the signs of polynomials can be told as at a Root."""
+
+    def __init__(self, t):
+        self.t = t
+
+    def sign_of(self, a):
+        """The sign of the value of the polynomial a at the number."""
+        return sign_of_value(a, self.t)
 
 
 class Root:
@@ -133,6 +145,13 @@ class Root:
             if least + 1 == most:
                 return least if self.compared((most, grid)) < 0 else most
             self.sharpen()
+
+    def rational(self):
+        """The number that the root is, or None if it is irrational."""
+        # A rational root is a whole number divided by the leading coefficient.
+        lead = abs(self.polynomial[-1])
+        top = self.floor(lead)
+        return number(top, lead) if self.compared((top, lead)) == 0 else None
 
     def is_common(self, divisor):
         """True if this divisor of the polynomial has the root, too."""

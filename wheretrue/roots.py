@@ -115,8 +115,5 @@ def sign_at_root(p, place, a):
 
 def rational_roots(a):
     """The rational roots of the polynomial a, which is not 0, ascending, each once."""
-    p = square_free(a)
-    # A rational root is a whole number divided by the leading coefficient.
-    lead = p[-1]
-    tops = [(root, root.floor(lead)) for root in real_roots(p)]
-    return [number(top, lead) for root, top in tops if root.compared((top, lead)) == 0]
+    found = [root.rational() for root in real_roots(square_free(a))]
+    return [x for x in found if x is not None]
