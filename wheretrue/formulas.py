@@ -18,17 +18,28 @@ MOST_ROWS = 5
 
 def check_formula(formula):
     """Raises the first error that is due, or returns None if the formula is right."""
-    _check_part(formula, 0)
-    sign_atoms, blocks, _ = size_of(formula)
-    if sign_atoms > MOST_SIGN_ATOMS or blocks > MOST_BLOCKS:
+    _check_whole(formula, are_uses_right=False)
+
+
+def check_condition(condition):
+    """Raises what check_formula raises, but ("use", other) is a right part, which counts as no atom."""
+    _check_whole(condition, are_uses_right=True)
+
+
+def _check_whole(formula, *, are_uses_right):
+    _check_part(formula, 0, are_uses_right)
+    words = _words_of(formula)
+    if words.count("sign") > MOST_SIGN_ATOMS or words.count("some") > MOST_BLOCKS:
         raise BadSize()
 
 
-def _check_part(part, around):
+def _check_part(part, around, are_uses_right):
     """Checks a part that stands within so many others, and then all parts of it."""
     if around > MOST_AROUND:
         raise TooDeep()
     word = part[0]
+    if word == "use" and are_uses_right and len(part) == 2:
+        return
     if LENGTHS.get(word) != len(part):
         raise BadForm()
     if word == "sign":
@@ -37,7 +48,16 @@ def _check_part(part, around):
         _check_block(part)
     else:
         for inner in part[1:]:
-            _check_part(inner, around + 1)
+            _check_part(inner, around + 1, are_uses_right)
+
+
+def _words_of(condition):
+    """The first elements of all parts, from left to right."""
+    words = [condition[0]]
+    if condition[0] not in ("sign", "some", "use"):
+        for part in condition[1:]:
+            words.extend(_words_of(part))
+    return words
 
 
 def _check_sign_atom(atom):
@@ -70,7 +90,7 @@ def _check_row(row, many):
 def atoms_of(formula):
     """The list of the atoms, from left to right, each time that it stands there."""
     if _is_atom(formula):
-        return [_copied(formula)]
+        return [copied(formula)]
     atoms = []
     for part in formula[1:]:
         atoms.extend(atoms_of(part))
@@ -103,7 +123,7 @@ def size_of(formula):
 def replaced(formula, atoms):
     """The formula with these formulas, in order, in the places of its atoms."""
     if _is_atom(formula):
-        return _copied(atoms[0])
+        return copied(atoms[0])
     if formula[0] == "not":
         return ("not", replaced(formula[1], atoms))
     many = _atom_count(formula[1])
@@ -148,7 +168,7 @@ def _pushed(formula, negated):
         sign = OPPOSITE_SIGNS[formula[2]] if negated else formula[2]
         return (word, list(formula[1]), sign)
     if word == "some":
-        block = _copied(formula)
+        block = copied(formula)
         return ("not", block) if negated else block
     joining = OPPOSITE_WORDS[word] if negated else word
     return (joining, _pushed(formula[1], negated), _pushed(formula[2], negated))
@@ -163,14 +183,14 @@ def _atom_count(formula):
     return sign_atoms + blocks
 
 
-def _copied(formula):
+def copied(formula):
     """The same formula with new lists, which the caller may change."""
     word = formula[0]
     if word == "sign":
         return (word, list(formula[1]), formula[2])
     if word == "some":
         return (word, formula[1], [_copied_row(row) for row in formula[2]])
-    return (word, *[_copied(part) for part in formula[1:]])
+    return (word, *[copied(part) for part in formula[1:]])
 
 
 def _copied_row(row):
